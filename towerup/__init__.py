@@ -1,0 +1,1 @@
+"""Towerup: objects that several sides call, built upon one another."""
