@@ -2,9 +2,14 @@
 
 from itertools import permutations, product
 
-from towerup.errors import BadKind, TowerError
+from towerup.contracts import Contract, free
+from towerup.errors import BadHouse, BadKind, BadSide, TowerError
+from towerup.houses import House, plain
 from towerup.kinds import Kind
+from towerup.programs import Side
+from towerup.runs import Running, run
 from towerup.shelf import cell, choose, counter, flag, queue, swap
+from towerup.things import Atomic, Weak
 
 
 def nested(depth):
@@ -25,6 +30,10 @@ def odd_values():
         {}, {"get": 0}, {0: "get"}, {None: None}, {"get": {}}, {(0, "get"): [0]}, {True: False},
         nested(3), nested(20), [nested(20)], (nested(19),), {"get": nested(19)},
         cell(2), flag(), BadKind("states"), TowerError("told"), [cell(2)], (cell(2), 0), {"get": cell(2)},
+        free(cell(2), 1), Atomic("x", cell(2)), Weak("x", "safe", 2), Side({}, {"get": []}),
+        [free(cell(2), 1)], (Atomic("x", cell(2)),), [Side({}, {"get": []})], {"x": Weak("x", "safe", 2)},
+        plain(cell(2), free(cell(2), 1)), Running(plain(cell(2), free(cell(2), 1))),
+        run(plain(cell(2), free(cell(2), 1)), []), [plain(cell(2), free(cell(2), 1))],
     ]
 
 
@@ -254,3 +263,365 @@ def slow_lot(kind, sides, history):
                         for result, after in kind.answers(state, status[1], status[2]):
                             configurations.add((after, statuses[:other] + ((2, result),) + statuses[other + 1:]))
     return tuple(sorted(configurations))
+
+
+def random_contract(rnd, kind, sides, modes=4, let=0.7):
+    """A contract whose modes may all come or not."""
+    return Contract(kind, random_rules(rnd, kind, sides, modes, let))
+
+
+def random_rules(rnd, kind, sides, modes=4, let=0.7):
+    return [{(mode, name): [rnd.randrange(modes) for _ in range(kind.results(name))]
+             for mode in range(modes) for name in kind.names() if rnd.random() < let} for _ in range(sides)]
+
+
+def random_store(rnd):
+    names = rnd.sample(["x", "y", "z", "plus", "call", "abcdefgh", "r"], rnd.randint(0, 4))
+    sizes = {name: rnd.randint(2, 4) for name in names}
+    return {name: rnd.choice((list, tuple))((size, rnd.randrange(size))) for name, size in sizes.items()}
+
+
+def random_term(rnd, store):
+    if store and rnd.random() < 0.5:
+        name = rnd.choice(sorted(store))
+        return rnd.choice((name, ("plus", name, rnd.randint(0, 3)), ["plus", name, rnd.randint(0, 3)]))
+    return rnd.choice(("arg", rnd.randint(0, 3)))
+
+
+def random_statement(rnd, store, calls, depth):
+    words = ["call"] * 4 * (len(calls) > 0) + ["return"]
+    if store:
+        words += ["set", "set"] + ["if", "if", "while"] * (depth < 2)
+    word = rnd.choice(words)
+    row = [word]
+    if word != "return":
+        row.append(rnd.choice(sorted(store) + [""] * (word == "call")))
+    if word == "call":
+        row += rnd.choice(calls)
+    row.append(random_term(rnd, store))
+    for _ in range({"if": 2, "while": 1}.get(word, 0)):
+        row.append(random_block(rnd, store, calls, depth + 1))
+    return rnd.choice((list, tuple))(row)
+
+
+def random_block(rnd, store, calls, depth=0):
+    """A block of statements, which need not stand to the rules."""
+    many = rnd.randint(0, 4 - depth)
+    return rnd.choice((list, tuple))([random_statement(rnd, store, calls, depth) for _ in range(many)])
+
+
+def random_right_block(rnd, store, calls):
+    """A block that a Side takes."""
+    while True:
+        block = random_block(rnd, store, calls)
+        if slow_side_fault(store, {"m": block}) is None:
+            return block
+
+
+def slow_side_fault(store, methods):
+    """The values of BadSide by the words of [10.3] and [10.4], None if the side can be made."""
+    if not (isinstance(store, dict) and len(store) <= 4 and all(
+            slow_name(name) and name != "arg" and isinstance(row, (list, tuple)) and len(row) == 2
+            and is_int(row[0]) and row[0] in (2, 3, 4) and is_int(row[1]) and 0 <= row[1] < row[0]
+            for name, row in store.items())):
+        return ("", -1, "store")
+    if not (isinstance(methods, dict) and 1 <= len(methods) <= 4 and all(
+            slow_name(name) and isinstance(block, (list, tuple)) for name, block in methods.items())):
+        return ("", -1, "methods")
+    for look in (slow_forms, slow_ways_through):
+        for name in sorted(methods):
+            for place, why in look(store, methods[name]):
+                if why is not None:
+                    return (name, place, why)
+    return None
+
+
+def slow_name(value):
+    return isinstance(value, str) and 1 <= len(value) <= 8 and set(value) <= set("abcdefghijklmnopqrstuvwxyz")
+
+
+def slow_forms(store, block):
+    """(place, first reason or None) for the statements of a block, by [10.4]."""
+    place = 0
+
+    def visit(rows, depth):
+        nonlocal place
+        for statement in rows:
+            why = "many" if place == 12 else slow_reason(store, statement, depth)
+            yield place, why
+            place += 1
+            if statement[0] in ("if", "while"):
+                for inner in statement[3:]:
+                    yield from visit(inner, depth + 1)
+    return visit(block, 0)
+
+
+def slow_reason(store, statement, depth):
+    def variable(value):
+        return isinstance(value, str) and value in store
+
+    def right_term(value):
+        if isinstance(value, (list, tuple)):
+            return (len(value) == 3 and isinstance(value[0], str) and value[0] == "plus" and variable(value[1])
+                    and is_int(value[2]) and 0 <= value[2] <= 3)
+        return is_int(value) and 0 <= value <= 3 or isinstance(value, str) and (value == "arg" or value in store)
+
+    forms = (("call", 5), ("set", 3), ("if", 5), ("while", 4), ("return", 2))
+    if not isinstance(statement, (list, tuple)) or len(statement) == 0 or not isinstance(statement[0], str):
+        return "statement"
+    word = statement[0]
+    if (word, len(statement)) not in forms:
+        return "statement"
+    if word != "return" and not variable(statement[1]) and not (word == "call" and statement[1] == ""):
+        return "local"
+    if word == "call" and not slow_name(statement[2]):
+        return "thing"
+    if word == "call" and not slow_name(statement[3]):
+        return "method"
+    if not right_term(statement[{"call": 4, "return": 1}.get(word, 2)]):
+        return "term"
+    if word in ("if", "while") and not all(isinstance(inner, (list, tuple)) for inner in statement[3:]):
+        return "block"
+    return "deep" if word in ("if", "while") and depth == 2 else None
+
+
+def slow_ways_through(store, block):
+    """(place, "dead" or "idle" or None) for the statements of a block, by [10.4]."""
+    def ends(statement):
+        if statement[0] == "if":
+            return all(inner and ends(inner[-1]) for inner in statement[3:])
+        return statement[0] == "return"
+
+    def ways(rows):
+        """What is met on each way through a block."""
+        found = [[]]
+        for statement in rows:
+            met = {"call": [["call"]], "return": [["return"]], "set": [[]]}.get(statement[0])
+            if statement[0] == "if":
+                met = ways(statement[3]) + ways(statement[4])
+            if statement[0] == "while":
+                met = [[]] + ways(statement[3])
+            found = [way + more for way in found for more in met]
+        return found
+
+    rows = []
+
+    def visit(inner):
+        for at, statement in enumerate(inner):
+            why = None
+            if statement[0] == "while" and [] in ways(statement[3]):
+                why = "idle"
+            if at > 0 and ends(inner[at - 1]):
+                why = "dead"
+            rows.append((len(rows), why))
+            for block in statement[3:] if statement[0] in ("if", "while") else ():
+                visit(block)
+    visit(block)
+    return rows
+
+
+def side_fault(store, methods):
+    """The values of the BadSide that a Side raises, None if it can be made."""
+    try:
+        Side(store, methods)
+    except BadSide as error:
+        return (error.method, error.place, error.why)
+    return None
+
+
+def random_things(rnd, many, sides):
+    """Atomic and weak things; the kinds may have missing rows and several answers."""
+    things = []
+    for name in rnd.sample(["c", "d", "e", "x", "abcdefgh"], many):
+        if rnd.random() < 0.4:
+            size = rnd.randint(2, 4)
+            things.append(Weak(name, rnd.choice(("safe", "regular")), size, rnd.randrange(size),
+                               owner=rnd.randrange(3) if rnd.random() < 0.2 else rnd.randrange(sides)))
+        else:
+            kind = rnd.choice(some_kinds() + [random_kind(rnd, 4, 3, 3, 2)] * 4)
+            things.append(Atomic(name, kind))
+    return things
+
+
+def calls_of_side(things, side):
+    """All (thing, method) that a program of the side may call."""
+    return [(thing.name, method) for thing in things for method in thing.kind.names()
+            if isinstance(thing, Atomic) or method == "get" or thing.owner == side]
+
+
+def random_program(rnd, kind, things, side):
+    store = random_store(rnd)
+    names = kind.names() + ["more"] * (len(kind.names()) < 4 and rnd.random() < 0.2)
+    return Side(store, {name: random_right_block(rnd, store, calls_of_side(things, side)) for name in names})
+
+
+def random_house(rnd, most_things=4, most_sides=3, kind=None):
+    """A house whose programs do anything; it mostly breaks."""
+    kind = kind or rnd.choice(some_kinds() + [random_kind(rnd, 4, 3, 3, 3)] * 2)
+    sides = rnd.randint(1, most_sides)
+    things = random_things(rnd, rnd.randint(1, most_things), sides)
+    contract = random_contract(rnd, kind, sides, rnd.choice((1, 1, 2, 3)), let=0.8)
+    return House(kind, things, contract, [random_program(rnd, kind, things, side) for side in range(sides)])
+
+
+class SlowHouse:
+    """A run of a house by the words of sections 10 and 12: each state is reckoned anew from all steps."""
+
+    def __init__(self, house, steps=()):
+        self.house = house
+        self.atoms = {thing.name: thing.kind.start for thing in house.things if isinstance(thing, Atomic)}
+        self.uses = []
+        self.sides = [{"mode": 0, "values": {name: start for name, _, start in program.store}, "program": None}
+                      for program in house.sides]
+        for moment, step in enumerate(steps):
+            self.take(moment, *step)
+
+    def take(self, moment, side, word, method, number):
+        own = self.sides[side]
+        if word == "call":
+            own.update(method=method, argument=number, use=None)
+            own["program"] = self.program(self.house.sides[side].block(method), own, number)
+            self.go_on(own, None)
+        elif word == "do":
+            _, _, thing, called, value = own["wants"]
+            result, self.atoms[thing] = self.answers(thing, called, value)[number]
+            self.go_on(own, result)
+        elif word == "start":
+            _, _, thing, called, value = own["wants"]
+            own["use"] = {"side": side, "thing": thing, "method": called, "start": moment, "finish": None,
+                          "value": value % self.house.thing(thing).kind.arguments(called)}
+            self.uses.append(own["use"])
+        elif word == "finish":
+            own["use"]["finish"] = moment
+            own["use"] = None
+            self.go_on(own, 0 if number == -1 else number)
+        elif word == "told":
+            own["mode"] = self.house.contract.rules()[side][(own["mode"], own["method"])][number]
+            own["program"] = None
+
+    def answers(self, thing, method, value):
+        kind = self.house.thing(thing).kind
+        return kind.answers(self.atoms[thing], method, value % kind.arguments(method))
+
+    def go_on(self, own, result):
+        """The side runs up to what it wants: a call of a thing, or to tell a value."""
+        try:
+            own["wants"] = own["program"].send(result)
+        except StopIteration as end:
+            told = 0 if end.value is None else end.value
+            own["wants"] = ("tell", told % self.house.kind.results(own["method"]))
+
+    def program(self, block, own, argument):
+        """The run of a program: it tells each call of a thing that it wants and is sent the result."""
+        values = own["values"]
+        side = [each is own for each in self.sides].index(True)
+        sizes = {name: size for name, size, _ in self.house.sides[side].store}
+
+        def reckon(term):
+            if isinstance(term, tuple):
+                return (values[term[1]] + term[2]) % sizes[term[1]]
+            return argument if term == "arg" else values.get(term, term)
+
+        def count(rows):
+            return sum(1 + sum(count(inner) for inner in statement[3:] if statement[0] in ("if", "while"))
+                       for statement in rows)
+
+        def play(rows, place):
+            """(True, value) of a return, (False, None) at the end of the rows."""
+            for statement in rows:
+                word, first = statement[0], place
+                place += count([statement])
+                if word == "return":
+                    return True, reckon(statement[1])
+                if word == "set":
+                    values[statement[1]] = reckon(statement[2]) % sizes[statement[1]]
+                elif word == "call":
+                    result = yield ("call", first, statement[2], statement[3], reckon(statement[4]))
+                    if statement[1] != "":
+                        values[statement[1]] = result % sizes[statement[1]]
+                elif word == "if":
+                    yes = values[statement[1]] == reckon(statement[2])
+                    inner = first + 1 if yes else first + 1 + count(statement[3])
+                    ended = yield from play(statement[3] if yes else statement[4], inner)
+                    if ended[0]:
+                        return ended
+                else:
+                    while values[statement[1]] == reckon(statement[2]):
+                        ended = yield from play(statement[3], first + 1)
+                        if ended[0]:
+                            return ended
+            return False, None
+
+        ended = yield from play(block, 0)
+        return ended[1]
+
+    def value_at(self, thing, moment):
+        """The value of a weak cell: that of the last set that finished ahead of the moment."""
+        sets = [use for use in self.uses if use["thing"] == thing.name and use["method"] == "set"
+                and use["finish"] is not None and use["finish"] < moment]
+        return max(sets, key=lambda use: use["finish"])["value"] if sets else thing.start
+
+    def may_tell(self, use):
+        """What a get under way may tell by now, by [10.2]."""
+        thing = self.house.thing(use["thing"])
+        overlapping = [each["value"] for each in self.uses if each["thing"] == thing.name and each["method"] == "set"
+                       and (each["finish"] is None or each["finish"] > use["start"])]
+        if use["side"] == thing.owner or not overlapping:
+            return [self.value_at(thing, use["start"])]
+        if thing.word == "safe":
+            return list(range(thing.size))
+        return sorted({self.value_at(thing, use["start"]), *overlapping})
+
+    def state(self):
+        return (tuple(self.part(side) for side in range(len(self.sides))),
+                tuple(self.stuff(thing) for thing in self.house.things))
+
+    def part(self, side):
+        own = self.sides[side]
+        values = tuple(own["values"][name] for name in sorted(own["values"]))
+        if own["program"] is None:
+            return (own["mode"], 0, "", -1, -1, values, -1)
+        begun = (own["mode"], self.phase(own), own["method"], own["argument"])
+        if own["wants"][0] == "tell":
+            return (*begun, -1, values, own["wants"][1])
+        return (*begun, own["wants"][1], values, -1)
+
+    def phase(self, own):
+        if own["program"] is None:
+            return 0
+        if own["wants"][0] == "tell":
+            return 3
+        return 1 if own["use"] is None else 2
+
+    def stuff(self, thing):
+        if isinstance(thing, Atomic):
+            return (self.atoms[thing.name],)
+        under = [use for use in self.uses if use["thing"] == thing.name and use["finish"] is None]
+        sets = [use["value"] for use in under if use["method"] == "set"]
+        seens = [()] * len(self.sides)
+        for use in under:
+            if use["method"] == "get" and use["side"] != thing.owner:
+                seens[use["side"]] = tuple(self.may_tell(use))
+        return (self.value_at(thing, 10 ** 9), sets[0] if sets else -1, tuple(seens))
+
+    def choices(self):
+        """All steps that are possible, wrong ones too, ascending."""
+        found = []
+        for side, own in enumerate(self.sides):
+            phase = self.phase(own)
+            if phase == 0:
+                found += [(side, "call", method, argument)
+                          for mode, method in self.house.contract.rules()[side] if mode == own["mode"]
+                          for argument in range(self.house.kind.arguments(method))]
+            elif phase == 3:
+                found.append((side, "told", "", own["wants"][1]))
+            elif phase == 2:
+                use = own["use"]
+                found += [(side, "finish", "", told)
+                          for told in (self.may_tell(use) if use["method"] == "get" else [-1])]
+            elif own["wants"][2] in self.atoms:
+                answers = self.answers(*own["wants"][2:])
+                found += [(side, "do", "", index) for index in range(len(answers))] or [(side, "wrong", "", -1)]
+            else:
+                found.append((side, "start", "", -1))
+        return sorted(found)

@@ -1,4 +1,4 @@
-"""The examples of section 22 of DOC.md about the shelf, machines, lots and orders."""
+"""The examples of section 22 of DOC.md."""
 
 import doctest
 import unittest
@@ -34,13 +34,38 @@ SESSIONS = (
     >>> order_count(cell(2), 2, history), first_order(cell(2), 2, history)
     (2, (1,))
     """,
+    """
+    >>> from towerup.contracts import free, looser, only
+    >>> from towerup.shelf import flag
+    >>> free(flag(), 2).methods(1, 0), looser(free(flag(), 1), only(flag(), [["test"]]))
+    (['clear', 'test'], (0, [], 'clear'))
+    """,
+)
+# The house that counts by a cell, which the sessions below use.
+HOUSE = """
+    >>> from towerup.contracts import only
+    >>> from towerup.houses import House
+    >>> from towerup.programs import Side
+    >>> from towerup.shelf import cell, counter
+    >>> from towerup.things import Atomic
+    >>> block = [("call", "x", "c", "get", 0), ("call", "", "c", "set", ("plus", "x", 1)), ("return", "x")]
+    >>> side = Side({"x": (2, 0)}, {"add": block})
+    >>> house = House(counter(2), [Atomic("c", cell(2))], only(counter(2), [["add"], ["add"]]), [side, side])
+    """
+WITH_HOUSE = (
+    """
+    >>> from towerup.verdicts import breaking, broken_at
+    >>> run = breaking(house)
+    >>> len(run), broken_at(house, run), run[-1]
+    (8, ('told', 3), (1, 'told', '', 0))
+    """,
 )
 
 
 class Examples(unittest.TestCase):
     def test_sessions(self):
         parser, runner = doctest.DocTestParser(), doctest.DocTestRunner(verbose=False)
-        for number, session in enumerate(SESSIONS):
+        for number, session in enumerate(SESSIONS + tuple(HOUSE + session for session in WITH_HOUSE)):
             test = parser.get_doctest(session, {}, f"session {number}", None, 0)
             self.assertGreater(len(test.examples), 1)
             with self.subTest(number):

@@ -4,7 +4,6 @@ import importlib
 import inspect
 import unittest
 
-from towerup.kinds import Kind
 
 FUNCTIONS = {
     "kinds": {"is_total": "(kind)", "is_single": "(kind)"},
@@ -18,10 +17,38 @@ FUNCTIONS = {
              "tellable": "(kind, sides, history, side)", "states_at": "(kind, sides, history)"},
     "orders": {"order_count": "(kind, sides, history)", "first_order": "(kind, sides, history)",
                "sure_pairs": "(kind, sides, history)", "order_fault": "(kind, sides, history, order)"},
+    "contracts": {"free": "(kind, sides)", "only": "(kind, rows)", "first_breach": "(contract, history)",
+                  "looser": "(one, other)", "both": "(one, other)"},
+    "houses": {"plain": "(kind, contract)"},
+    "steps": {"initial": "(house)", "moves": "(house, state)", "wrongs": "(house, state)", "event_of": "(step)"},
+    "runs": {"run": "(house, steps)"},
+    "verdicts": {"breaking": "(house, *, limit=2000)", "broken_at": "(house, steps)",
+                 "standings": "(house, *, limit=2000)", "closed_fault": "(house, rows)",
+                 "sizes": "(house, *, limit=2000)"},
 }
-KIND_METHODS = {
-    "__init__": "(self, states, start, methods)", "names": "(self)", "arguments": "(self, method)",
-    "results": "(self, method)", "answers": "(self, state, method, argument)", "with_start": "(self, start)",
+EQUAL = {"__eq__": "(self, other)"}
+CLASSES = {
+    "kinds": {"Kind": {
+        "__init__": "(self, states, start, methods)", "names": "(self)", "arguments": "(self, method)",
+        "results": "(self, method)", "answers": "(self, state, method, argument)", "with_start": "(self, start)",
+        "__contains__": "(self, method)", **EQUAL}},
+    "contracts": {"Contract": {
+        "__init__": "(self, kind, rules)", "methods": "(self, side, mode)", "rules": "(self)",
+        "after": "(self, side, mode, method, result)", **EQUAL}},
+    "things": {
+        "Atomic": {"__init__": "(self, name, kind)", **EQUAL},
+        "Weak": {"__init__": "(self, name, word, size, start=0, *, owner=0)", **EQUAL}},
+    "programs": {"Side": {
+        "__init__": "(self, store, methods)", "names": "(self)", "block": "(self, method)", "walk": "(self, method)",
+        "with_block": "(self, method, block)", "without": "(self, method, place)", **EQUAL}},
+    "houses": {"House": {
+        "__init__": "(self, kind, things, contract, sides)", "thing": "(self, name)",
+        "with_things": "(self, things)", "with_contract": "(self, contract)",
+        "with_side": "(self, side, program)", "__contains__": "(self, name)", **EQUAL}},
+    "runs": {
+        "Running": {"__init__": "(self, house)", "choices": "(self)", "can": "(self, step)", "step": "(self, step)",
+                    "back": "(self)", "record": "(self)", "wander": "(self, numbers)", "__len__": "(self)"},
+        "Record": {}},
 }
 
 
@@ -35,13 +62,15 @@ class Interface(unittest.TestCase):
                     self.assertEqual(function.__module__, f"towerup.{file}")
                     self.assertEqual(str(inspect.signature(function)), arguments)
 
-    def test_kind(self):
-        self.assertEqual(Kind.__module__, "towerup.kinds")
-        for name, arguments in KIND_METHODS.items():
-            with self.subTest(name):
-                self.assertEqual(str(inspect.signature(vars(Kind)[name])), arguments)
-        self.assertIn("__eq__", vars(Kind))
-        self.assertIn("__contains__", vars(Kind))
+    def test_classes(self):
+        for file, classes in CLASSES.items():
+            module = importlib.import_module(f"towerup.{file}")
+            for name, methods in classes.items():
+                made = getattr(module, name)
+                self.assertEqual(made.__module__, f"towerup.{file}")
+                for method, arguments in methods.items():
+                    with self.subTest(name=name, method=method):
+                        self.assertEqual(str(inspect.signature(vars(made)[method])), arguments)
 
     def test_errors_stand_in_their_file(self):
         errors = importlib.import_module("towerup.errors")

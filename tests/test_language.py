@@ -40,7 +40,8 @@ STATEMENTS = (
     ast.Expr, ast.FunctionDef, ast.ClassDef, ast.ImportFrom)
 EXPRESSIONS = (
     ast.Constant, ast.List, ast.Tuple, ast.Dict, ast.Set, ast.Name, ast.Attribute, ast.Subscript, ast.Slice, ast.Call,
-    ast.BinOp, ast.UnaryOp, ast.BoolOp, ast.Compare, ast.IfExp, ast.ListComp, ast.DictComp, ast.SetComp, ast.Lambda)
+    ast.BinOp, ast.UnaryOp, ast.BoolOp, ast.Compare, ast.IfExp, ast.ListComp, ast.DictComp, ast.SetComp, ast.Lambda,
+    ast.Yield)
 OPERATORS = (ast.Add, ast.Sub, ast.Mult, ast.FloorDiv, ast.Mod, ast.BitOr, ast.BitAnd, ast.BitXor, ast.LShift,
              ast.RShift)
 
@@ -194,7 +195,7 @@ class Code(unittest.TestCase):
         for where, node in nodes(ast.stmt):
             self.assertIsInstance(node, STATEMENTS, where)
             if isinstance(node, ast.Expr):
-                self.assertTrue(isinstance(node.value, ast.Call) or isinstance(node.value, ast.Constant)
+                self.assertTrue(isinstance(node.value, (ast.Call, ast.Yield)) or isinstance(node.value, ast.Constant)
                                 and isinstance(node.value.value, str), where)
             if isinstance(node, ast.Raise):
                 self.assertIsInstance(node.exc, ast.Call, where)
@@ -256,7 +257,8 @@ class Code(unittest.TestCase):
                 if isinstance(node, ast.Call) and isinstance(node.func, ast.Attribute):
                     self.assertIn(node.func.attr, METHODS | own, where)
                 if isinstance(node, ast.Call) and isinstance(node.func, ast.Name) and node.func.id in BUILTINS:
-                    self.assertEqual(node.keywords, [], where)
+                    words = ["key"] if node.func.id in ("sorted", "min", "max") else []
+                    self.assertTrue(all(each.arg in words for each in node.keywords), where)
             for node, parent in with_parents(tree):
                 if isinstance(node, ast.Name) and node.id in BUILTINS - bound:
                     called = isinstance(parent, ast.Call) and parent.func is node
@@ -285,6 +287,30 @@ class Code(unittest.TestCase):
                     at_once = isinstance(parent, (ast.For, ast.comprehension)) or (
                         isinstance(parent, ast.Call) and getattr(parent.func, "id", "") in BUILTINS)
                     self.assertTrue(at_once, f"{path.name}:{node.lineno}")
+
+    def test_generators(self):                                                          # L23
+        functions = [node for _, node in nodes(ast.FunctionDef)]
+        names = [node.name for node in functions]
+        own = {node.name for node in functions if any(isinstance(each, ast.Yield) for each in ast.walk(node))}
+        for name in own:
+            self.assertEqual(names.count(name), 1, name)
+            self.assertNotIn(name, METHODS)
+        for path, _, tree in parsed():
+            parents = {child: node for child, node in with_parents(tree)}
+            for node, parent in parents.items():
+                where = f"{path.name}:{getattr(node, 'lineno', 0)}"
+                if isinstance(node, ast.Yield):
+                    self.assertIsInstance(parent, ast.Expr, where)
+                name = getattr(node, "id", getattr(node, "attr", None))
+                if name in own and isinstance(node, (ast.Name, ast.Attribute)):
+                    self.assertTrue(isinstance(parent, ast.Call) and parent.func is node, where)
+                    around = parents[parent]
+                    at_once = isinstance(around, (ast.For, ast.comprehension)) and around.iter is parent
+                    self.assertTrue(at_once or getattr(getattr(around, "func", None), "id", "") == "list", where)
+            for node in ast.walk(tree):
+                if isinstance(node, ast.FunctionDef) and node.name in own:
+                    for each in ast.walk(node):
+                        self.assertFalse(isinstance(each, ast.Return) and each.value is not None, node.name)
 
     def test_loops_do_not_change_what_they_iterate_over(self):                          # L23
         for where, node in nodes(ast.For):

@@ -33,3 +33,10 @@ def is_name(value):
 def with_item(row, at, item):
     """The tuple with another item at one place."""
     return row[:at] + (item,) + row[at + 1:]
+
+
+def as_tuples(value):
+    """The value with tuples in the place of all rows, also inside."""
+    if isinstance(value, (list, tuple)):
+        return tuple([as_tuples(item) for item in value])
+    return value

@@ -27,9 +27,19 @@ def alike(one, other):
     if _numbers(one) != _numbers(other):
         raise Unlike()
     calls = _all_calls(one)
-    tables = [(_masks(one, call), _masks(other, call)) for call in calls]
+    tables = [(masks_behind(one, call), masks_behind(other, call)) for call in calls]
     row = _parting_row(tables, (1 << one.start, 1 << other.start))
     return None if row is None else [calls[index] for index in row]
+
+
+def masks_behind(kind, call):
+    """For each set of states, as the bits of an index, the bits of the states behind the call."""
+    method, argument, result = call
+    masks = [0]
+    for state in range(kind.states):
+        bits = sum([1 << after for after in states_behind(kind, (state,), method, argument, result)])
+        masks = masks + [mask | bits for mask in masks]
+    return masks
 
 
 def _check_calls(kind, calls):
@@ -56,16 +66,6 @@ def _all_calls(kind):
             for name, arguments, results in _numbers(kind)
             for argument in range(arguments)
             for result in range(results)]
-
-
-def _masks(kind, call):
-    """For each set of states, as the bits of an index, the bits of the states behind the call."""
-    method, argument, result = call
-    masks = [0]
-    for state in range(kind.states):
-        bits = sum([1 << after for after in states_behind(kind, (state,), method, argument, result)])
-        masks = masks + [mask | bits for mask in masks]
-    return masks
 
 
 def _parting_row(tables, first):
