@@ -338,6 +338,15 @@ class Wandering(unittest.TestCase):
         list(Running(plain(flag(), free(flag(), 2))).wander(numbers))
         self.assertEqual(numbers, [3, 4, 5])
 
+    def test_what_is_changed_afterwards(self):
+        numbers = [3, 0, 0]
+        running = Running(plain(flag(), free(flag(), 2)))
+        wandering = running.wander(numbers)
+        self.assertEqual(next(wandering), (1, "call", "test", 0))
+        numbers[1] = None
+        numbers.append(0)
+        self.assertEqual(list(wandering), [(0, "call", "clear", 0), (0, "do", "", 0)])
+
 
 if __name__ == "__main__":
     unittest.main()

@@ -92,7 +92,7 @@ def _begun(house, state, side):
     for method in house.contract.methods(side, mode):
         place = first_place(house.sides[side].flow(method))
         for argument in range(house.kind.arguments(method)):
-            part = _gone_on(house, side, (mode, AHEAD, method, argument, place, values, -1))
+            part = _gone_on(house, side, (mode, method, argument), place, values)
             found.append(((side, "call", method, argument), _with_part(state, side, part)))
     return found
 
@@ -151,12 +151,12 @@ def _behind(house, state, side, result):
     program = house.sides[side]
     _, local, _, _, _, behind = program.flow(method)[place]
     kept = with_value(program, values, local, result)
-    return _with_part(state, side, _gone_on(house, side, (mode, AHEAD, method, argument, behind, kept, -1)))
+    return _with_part(state, side, _gone_on(house, side, (mode, method, argument), behind, kept))
 
 
-def _gone_on(house, side, part):
-    """The part of a side that goes on by itself from a place to its next call, or to its end."""
-    mode, _, method, argument, place, values, _ = part
+def _gone_on(house, side, call, place, values):
+    """The part of a side that goes on by itself from a place of its call to a call of a thing, or to its end."""
+    mode, method, argument = call
     program = house.sides[side]
     flow = program.flow(method)
     told = 0
