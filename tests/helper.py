@@ -2,14 +2,19 @@
 
 from itertools import permutations, product
 
-from towerup.contracts import Contract, free
-from towerup.errors import BadHouse, BadKind, BadSide, TowerError
+from towerup.contracts import Contract, free, only
+from towerup.errors import BadHouse, BadKind, BadLimit, BadSide, TooMany, TowerError
 from towerup.houses import House, plain
 from towerup.kinds import Kind
+from towerup.lots import first_lot, lot_behind
 from towerup.programs import Side
 from towerup.runs import Running, run
 from towerup.shelf import cell, choose, counter, flag, queue, swap
+from towerup.steps import event_of, initial, moves, wrongs
 from towerup.things import Atomic, Weak
+from towerup.verdicts import sizes
+
+GREAT = 600
 
 
 def nested(depth):
@@ -625,3 +630,163 @@ class SlowHouse:
             else:
                 found.append((side, "start", "", -1))
         return sorted(found)
+
+
+def counting(sides=2, size=2):
+    """The house of section 22: it counts by a cell that is got and then set."""
+    block = [("call", "x", "c", "get", 0), ("call", "", "c", "set", ("plus", "x", 1)), ("return", "x")]
+    side = Side({"x": (size, 0)}, {"add": block})
+    return House(counter(size), [Atomic("c", cell(size))], only(counter(size), [["add"]] * sides), [side] * sides)
+
+
+def locked(sides=2):
+    """Counts by a cell under a lock, and keeps its kind."""
+    block = [("call", "l", "f", "test", 0), ("while", "l", 1, [("call", "l", "f", "test", 0)]),
+             ("call", "x", "c", "get", 0), ("call", "", "c", "set", ("plus", "x", 1)), ("call", "", "f", "clear", 0),
+             ("return", "x")]
+    side = Side({"x": (2, 0), "l": (2, 0)}, {"add": block})
+    things = [Atomic("c", cell(2)), Atomic("f", flag())]
+    return House(counter(2), things, only(counter(2), [["add"]] * sides), [side] * sides)
+
+
+def weak_cell(word, size=2, gets=1):
+    """Side 0 sets a cell, the others get it; each call is one of a weak cell, or several ones."""
+    get = [("call", "r", "w", "get", 0)] * gets + [("return", "r")]
+    put = [("call", "", "w", "set", "arg")]
+    sides = [Side({"r": (size, 0)}, {"get": get, "set": put}), Side({"r": (size, 0)}, {"get": get})]
+    return House(cell(size), [Weak("w", word, size)], only(cell(size), [["set"], ["get"]]), sides)
+
+
+def any_answers():
+    """A kind that may tell anything; every house without wrong steps keeps it."""
+    rows = [[[(result, 0) for result in range(3)]] * 2]
+    return Kind(1, 0, {"a": (2, 3, rows), "b": (2, 3, rows)})
+
+
+def stuck():
+    """A house whose one side can only take a wrong step behind its call."""
+    kind = Kind(1, 0, {"go": (1, 1, [[[]]])})
+    return plain(kind, free(kind, 1))
+
+
+def some_houses():
+    gone = Kind(2, 0, {"go": (1, 1, [[[(0, 1)]], [[]]]), "no": (1, 2, [[[(1, 1)]], [[(0, 0)]]])})
+    return [counting(), counting(1), counting(2, 3), locked(1), locked(), weak_cell("regular"), weak_cell("safe"),
+            weak_cell("regular", 3), weak_cell("safe", 3), weak_cell("safe", 2, 2), stuck(),
+            plain(cell(2), free(cell(2), 1)), plain(flag(), only(flag(), [["test"], ["clear"]])),
+            plain(gone, free(gone, 1)), plain(gone, only(gone, [["go"], ["no"]])),
+            plain(choose(2), free(choose(2), 2)), plain(swap(2), free(swap(2), 2)), plain(lossy(), free(lossy(), 1)),
+            plain(queue(1, 2), free(queue(1, 2), 2)), plain(counter(2), Contract(counter(2), [
+                {(0, "add"): (1, 2), (1, "get"): (0, 0)}, {(0, "get"): (0, 1)}])),
+            House(cell(2), [], free(cell(2), 2), [Side({}, {"get": [], "set": []})] * 2)]
+
+
+def drawn_houses(rnd, many):
+    """Houses of all sorts that have not too many standings."""
+    found = []
+    while len(found) < many:
+        draw = rnd.random()
+        if draw < 0.35:
+            house = random_house(rnd, 2, 2)
+        elif draw < 0.6:
+            house = random_house(rnd, 2, 2, any_answers())
+        else:
+            kind = random_kind(rnd, 3, 2, 2, 2, least_answers=rnd.choice((0, 1, 1)))
+            house = plain(kind, random_contract(rnd, kind, rnd.randint(1, 2), rnd.randint(1, 3), let=0.6))
+            if rnd.random() < 0.4:
+                other = random_kind(rnd, 3, 2, 2, 2)
+                if {name: other.arguments(name) for name in other.names()} == {
+                        name: kind.arguments(name) for name in kind.names()}:
+                    house = house.with_things([Atomic("x", other)])
+        try:
+            sizes(house, limit=GREAT)
+        except TooMany:
+            continue
+        found.append(house)
+    return found
+
+
+def slow_search(house):
+    """All standings, and the first of the shortest runs that break, or None, by the words of section 14."""
+    first = (initial(house), first_lot(house.kind, len(house.sides)))
+    seen, level, broken = {first}, [([], first)], None
+    while level:
+        ends, further = [], []
+        for steps, (state, before) in level:
+            ends += [steps + [(side, "wrong", "", -1)] for side in wrongs(house, state)]
+            for step, behind in moves(house, state):
+                event = event_of(step)
+                after = lot_behind(house.kind, len(house.sides), before, event) if event else before
+                if after == ():
+                    ends.append(steps + [step])
+                elif (behind, after) not in seen:
+                    seen.add((behind, after))
+                    further.append((steps + [step], (behind, after)))
+        if ends and broken is None:
+            broken = min(ends)
+        level = sorted(further, key=lambda pair: pair[0])
+    return sorted(seen), broken
+
+
+def slow_states(house):
+    """All states that come in runs."""
+    seen = {initial(house)}
+    todo = list(seen)
+    while todo:
+        for _, state in moves(house, todo.pop()):
+            if state not in seen:
+                seen.add(state)
+                todo.append(state)
+    return seen
+
+
+def changed_house(rnd, house):
+    """A house of the same kind and sides: with another thing, contract, statement or program."""
+    sides = len(house.sides)
+    draw = rnd.random()
+    if draw < 0.2:
+        return plain(house.kind, rnd.choice((house.contract, random_contract(rnd, house.kind, sides, 2))))
+    if draw < 0.4:
+        try:
+            return house.with_contract(random_contract(rnd, house.kind, sides, rnd.randint(1, 3)))
+        except BadHouse:
+            return house
+    side = rnd.randrange(sides)
+    program = house.sides[side]
+    if draw < 0.6 and house.things:
+        return house.with_things([other_thing(rnd, thing) for thing in house.things])
+    method = rnd.choice(program.names())
+    if draw < 0.8 and program.block(method):
+        try:
+            many = len(list(program.walk(method)))
+            return house.with_side(side, program.without(method, rnd.randrange(many)))
+        except BadSide:
+            return house
+    store = {name: (size, start) for name, size, start in program.store}
+    block = random_right_block(rnd, store, calls_of_side(house.things, side))
+    return house.with_side(side, program.with_block(method, block))
+
+
+def other_thing(rnd, thing):
+    """A thing of the same name and methods that behaves otherwise, or the same thing."""
+    if isinstance(thing, Weak):
+        return rnd.choice((thing, Atomic(thing.name, thing.kind), Weak(
+            thing.name, rnd.choice(("safe", "regular")), thing.size, rnd.randrange(thing.size), owner=thing.owner)))
+    return rnd.choice((thing, Atomic(thing.name, changed_kind(rnd, thing.kind))))
+
+
+def limits_told(test, function, many, answer):
+    """The function(limit) counts so many things: it answers for just this limit, and raises for one less."""
+    test.assertEqual(function(many), answer)
+    test.assertEqual(function(4000), answer)
+    for limit in {1, many // 2, many - 1} - {0, many}:
+        with test.assertRaises(TooMany) as caught:
+            function(limit)
+        test.assertEqual(caught.exception.limit, limit)
+
+
+def bad_limits(test, function):
+    """The function(limit) raises BadLimit for all values that are no limits."""
+    for limit in not_between(1, 4000):
+        with test.assertRaises(BadLimit):
+            function(limit)

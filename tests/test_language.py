@@ -37,11 +37,11 @@ NAMES = set(
 PREFIXES = ("__", "_wall", "_pe_", "_dcw_", "_enum_", "_cm_", "_twin_re_", "_lay_", "_law_", "_stub_", "_sre")
 STATEMENTS = (
     ast.Assign, ast.AugAssign, ast.If, ast.While, ast.For, ast.Return, ast.Break, ast.Continue, ast.Pass, ast.Raise,
-    ast.Expr, ast.FunctionDef, ast.ClassDef, ast.ImportFrom)
+    ast.Expr, ast.FunctionDef, ast.ClassDef, ast.ImportFrom, ast.Try)
 EXPRESSIONS = (
     ast.Constant, ast.List, ast.Tuple, ast.Dict, ast.Set, ast.Name, ast.Attribute, ast.Subscript, ast.Slice, ast.Call,
     ast.BinOp, ast.UnaryOp, ast.BoolOp, ast.Compare, ast.IfExp, ast.ListComp, ast.DictComp, ast.SetComp, ast.Lambda,
-    ast.Yield)
+    ast.Yield, ast.JoinedStr, ast.FormattedValue)
 OPERATORS = (ast.Add, ast.Sub, ast.Mult, ast.FloorDiv, ast.Mod, ast.BitOr, ast.BitAnd, ast.BitXor, ast.LShift,
              ast.RShift)
 
@@ -78,6 +78,8 @@ def bound_names(tree):
             yield node.arg, node.lineno
         elif isinstance(node, ast.alias):
             yield node.asname or node.name, node.lineno
+        elif isinstance(node, ast.ExceptHandler) and node.name:
+            yield node.name, node.lineno
         elif isinstance(node, ast.Name) and isinstance(node.ctx, ast.Store):
             yield node.id, node.lineno
 
@@ -112,19 +114,25 @@ class Files(unittest.TestCase):
             docs = {ast.get_docstring(node, clean=False) for node in ast.walk(tree)
                     if isinstance(node, (ast.Module, ast.ClassDef, ast.FunctionDef))}
             for token in tokenize.generate_tokens(io.StringIO(text).readline):
-                if token.type not in (tokenize.STRING, tokenize.NAME):
-                    continue
                 where = f"{path.name}:{token.start[0]}"
                 if token.type == tokenize.NAME:
                     self.assertNotIn(token.string, WORDS, where)
-                    continue
-                self.assertRegex(token.string[0], "[\"']", where)
-                value = ast.literal_eval(token.string)
-                self.assertNotIn("\\", token.string, where)
-                self.assertNotIn("%", value, where)
-                self.assertNotRegex(value, r"^__.*__$", where)
-                if value not in docs:
-                    self.assertEqual(WORDS & set(re.findall(r"\w+", value)), set(), where)
+                elif token.type == tokenize.STRING:
+                    self.assertRegex(token.string, "^f?[\"']", where)
+                    self.assertNotRegex(token.string, r"\\[^n]", where)
+            for node in ast.walk(tree):
+                if isinstance(node, ast.Constant) and isinstance(node.value, str):
+                    where = f"{path.name}:{node.lineno}"
+                    self.assertNotIn("%", node.value, where)
+                    self.assertNotRegex(node.value, r"^__.*__$", where)
+                    if node.value not in docs:
+                        self.assertEqual(WORDS & set(re.findall(r"\w+", node.value)), set(), where)
+
+    def test_f_strings(self):                                                           # L7, L27
+        for where, node in nodes(ast.FormattedValue):
+            self.assertEqual((node.conversion, node.format_spec), (-1, None), where)
+            inside = [each for each in ast.walk(node.value) if isinstance(each, ast.Constant)]
+            self.assertEqual([each for each in inside if isinstance(each.value, str)], [], where)
 
 
 class Modules(unittest.TestCase):
@@ -200,6 +208,12 @@ class Code(unittest.TestCase):
             if isinstance(node, ast.Raise):
                 self.assertIsInstance(node.exc, ast.Call, where)
                 self.assertIsNone(node.cause, where)
+            if isinstance(node, ast.Try):
+                self.assertEqual((node.orelse, node.finalbody), ([], []), where)
+                own = {each.name for _, each in nodes(ast.ClassDef) if each.bases}
+                for handler in node.handlers:
+                    self.assertIsInstance(handler.type, ast.Name, where)
+                    self.assertIn(handler.type.id, own, where)
         for where, node in nodes(ast.expr):
             self.assertIsInstance(node, EXPRESSIONS, where)
             if isinstance(node, ast.Constant):
@@ -328,8 +342,10 @@ class Code(unittest.TestCase):
 
     def test_operators_change_nothing(self):                                            # L5, L28
         for where, node in nodes(ast.FunctionDef):
-            if node.name in ("__eq__", "__contains__", "__len__"):
+            if node.name in ("__eq__", "__contains__", "__len__", "__enter__"):
                 self.assertTrue(all(isinstance(part, ast.Return) for part in node.body), where)
+            if node.name == "__exit__":
+                self.assertTrue(all(isinstance(part, ast.Pass) for part in node.body), where)
             if node.name == "__init__":
                 self.assertFalse([each for each in ast.walk(node) if isinstance(each, ast.Return)], where)
 

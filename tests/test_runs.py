@@ -3,7 +3,7 @@
 import random
 import unittest
 
-from tests.helper import SlowHouse, odd_values, random_house
+from tests.helper import SlowHouse, odd_values, random_house, stuck
 from towerup.contracts import free
 from towerup.errors import BadNumbers, BadStep, NoStep
 from towerup.houses import plain
@@ -35,12 +35,6 @@ def long_run():
     turn = [(1, "call", "set", 1), (0, "call", "get", 0), (1, "do", "", 0), (0, "do", "", 0), (0, "told", "", 1),
             (1, "told", "", 0)]
     return house, turn * 100
-
-
-def stuck():
-    """A house whose one side can only take a wrong step behind its call."""
-    kind = Kind(1, 0, {"go": (1, 1, [[[]]])})
-    return plain(kind, free(kind, 1))
 
 
 class Runs(unittest.TestCase):

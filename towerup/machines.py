@@ -2,6 +2,7 @@
 
 from towerup.basics import is_below, is_row
 from towerup.errors import BadCalls, Unlike
+from towerup.graphs import way_to
 
 MOST_CALLS = 60
 
@@ -35,11 +36,16 @@ def alike(one, other):
 def masks_behind(kind, call):
     """For each set of states, as the bits of an index, the bits of the states behind the call."""
     method, argument, result = call
-    masks = [0]
-    for state in range(kind.states):
-        bits = sum([1 << after for after in states_behind(kind, (state,), method, argument, result)])
-        masks = masks + [mask | bits for mask in masks]
-    return masks
+    rows = [states_behind(kind, (state,), method, argument, result) for state in range(kind.states)]
+    return masks_of_sets([sum([1 << after for after in row]) for row in rows])
+
+
+def masks_of_sets(masks):
+    """For each set of indexes of masks, as the bits of an index, all bits of these masks together."""
+    joined = [0]
+    for bits in masks:
+        joined = joined + [mask | bits for mask in joined]
+    return joined
 
 
 def _check_calls(kind, calls):
@@ -80,15 +86,7 @@ def _parting_row(tables, first):
             if behind not in came:
                 came[behind] = (found[at], index)
                 if 0 in behind:
-                    return _way_to(came, behind)
+                    return way_to(came, behind)
                 found.append(behind)
         at += 1
     return None
-
-
-def _way_to(came, end):
-    way = []
-    while came[end] is not None:
-        end, index = came[end]
-        way.append(index)
-    return way[::-1]

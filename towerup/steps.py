@@ -60,6 +60,24 @@ def choices_at(house, state):
     return sorted(moves(house, state) + wrong, key=lambda row: row[0])
 
 
+def state_behind(house, state, value):
+    """The state behind a move; None if the value is no row of a step that is possible, or of a wrong one."""
+    taken = as_step(value)
+    for step, behind in moves(house, state):
+        if step == taken:
+            return behind
+    return None
+
+
+def called_at(house, state, side):
+    """The row of the call at which the side is, the index of the thing, and the argument."""
+    _, _, method, argument, place, values, _ = state[0][side]
+    row = house.sides[side].flow(method)[place]
+    at = house.place_of(row[2])
+    value = value_of(house.sides[side], row[4], values, argument)
+    return row, at, value % house.things[at].kind.arguments(row[3])
+
+
 def as_step(value):
     """The value as a tuple, if it is a row of a side, two words and a number; otherwise None."""
     if not is_row(value, 4, 4) or not is_integer(value[0]) or not is_integer(value[3]):
@@ -99,7 +117,7 @@ def _begun(house, state, side):
 
 def _ahead(house, state, side):
     """The moves of a side ahead of a call of a thing."""
-    row, at, argument = _called(house, state, side)
+    row, at, argument = called_at(house, state, side)
     thing, before = house.things[at], state[1][at]
     if isinstance(thing, Atomic):
         answers = thing.kind.answers(before[0], row[3], argument)
@@ -112,7 +130,7 @@ def _ahead(house, state, side):
 
 def _finished(house, state, side):
     """The moves of a side that finishes a call of a weak cell."""
-    row, at, _ = _called(house, state, side)
+    row, at, _ = called_at(house, state, side)
     value, under, seens = state[1][at]
     if row[3] == "set":
         behind = _behind(house, _with_stuff(state, at, (under, -1, seens)), side, 0)
@@ -131,18 +149,9 @@ def _told(house, state, side):
 
 def _is_stuck(house, state, side):
     """Whether a side ahead of a call of a thing can only take a wrong step."""
-    row, at, argument = _called(house, state, side)
+    row, at, argument = called_at(house, state, side)
     thing = house.things[at]
     return isinstance(thing, Atomic) and not thing.kind.answers(state[1][at][0], row[3], argument)
-
-
-def _called(house, state, side):
-    """The row of the call at which the side is, the index of the thing, and the argument."""
-    _, _, method, argument, place, values, _ = state[0][side]
-    row = house.sides[side].flow(method)[place]
-    at = house.place_of(row[2])
-    value = value_of(house.sides[side], row[4], values, argument)
-    return row, at, value % house.things[at].kind.arguments(row[3])
 
 
 def _behind(house, state, side, result):

@@ -1,6 +1,7 @@
 """Verdicts: whether a house keeps its kind."""
 
 from towerup.errors import BadStep, Broken
+from towerup.graphs import way_to
 from towerup.masks import EMPTY, Lots
 from towerup.runs import run
 from towerup.steps import event_of, wrong_step
@@ -80,23 +81,14 @@ def _walked(house, states, limit):
         ways = graph.ways(number)
         breaks = [step for step, behind in ways if behind == BREAKS]
         if broken is None and (breaks or graph.wrong(number)):
-            broken = (number, min(breaks + [wrong_step(side) for side in graph.wrong(number)]))
+            last = min(breaks + [wrong_step(side) for side in graph.wrong(number)])
+            broken = way_to(came, number) + [last]
         for step, behind in ways:
             if behind != BREAKS and behind not in came:
                 came[behind] = (number, step)
         check_many(graph.many(), limit)
         number += 1
-    return graph, None if broken is None else _way_to(came, broken)
-
-
-def _way_to(came, last):
-    """The steps up to a last one, (number of the standing ahead of it, step)."""
-    steps = []
-    while last is not None:
-        number, step = last
-        steps.append(step)
-        last = came[number]
-    return steps[::-1]
+    return graph, broken
 
 
 def _way_fault(table, graph, number):
