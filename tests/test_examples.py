@@ -40,6 +40,18 @@ SESSIONS = (
     >>> free(flag(), 2).methods(1, 0), looser(free(flag(), 1), only(flag(), [["test"]]))
     (['clear', 'test'], (0, [], 'clear'))
     """,
+    """
+    >>> from towerup.diaries import sure_results
+    >>> from towerup.shelf import cell
+    >>> sure_results(cell(2), 2, [("call", 0, "set", 1), ("told", 0, None), ("call", 1, "get", 0), ("told", 1, None)])
+    [0, 1]
+    """,
+    r"""
+    >>> from towerup.shelf import flag
+    >>> from towerup.texts import kind_text
+    >>> kind_text(flag())
+    'kind 2 0\nmethod clear 1 1\n0 0 0/0\n1 0 0/0\nmethod test 1 2\n0 0 0/1\n1 0 1/1'
+    """,
 )
 # The house that counts by a cell, which the sessions below use.
 HOUSE = """
@@ -58,6 +70,27 @@ WITH_HOUSE = (
     >>> run = breaking(house)
     >>> len(run), broken_at(house, run), run[-1]
     (8, ('told', 3), (1, 'told', '', 0))
+    """,
+    """
+    >>> from towerup.houses import plain
+    >>> from towerup.shown import within
+    >>> within(house, plain(house.kind, house.contract))
+    [('call', 0, 'add', 0), ('call', 1, 'add', 0), ('told', 0, 0), ('told', 1, 0)]
+    """,
+    """
+    >>> from towerup.waits import alone, longest
+    >>> longest(house, 0), alone(house, 0)
+    (4, 3)
+    """,
+    """
+    >>> from towerup.errors import NoCompose
+    >>> from towerup.houses import plain
+    >>> from towerup.towers import composed
+    >>> try:
+    ...     composed(plain(house.kind, house.contract), "x", house)
+    ... except NoCompose as error:
+    ...     error.why
+    'lacks'
     """,
 )
 

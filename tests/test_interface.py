@@ -25,6 +25,19 @@ FUNCTIONS = {
     "verdicts": {"breaking": "(house, *, limit=2000)", "broken_at": "(house, steps)",
                  "standings": "(house, *, limit=2000)", "closed_fault": "(house, rows)",
                  "sizes": "(house, *, limit=2000)"},
+    "shown": {"run_of": "(house, history, *, limit=2000)", "shows": "(house, history, *, limit=2000)",
+              "within": "(one, other, *, limit=2000)", "parted": "(one, other, *, limit=2000)"},
+    "towers": {"composed": "(outer, name, inner, *, limit=2000)", "stacked": "(outer, rows, *, limit=2000)",
+               "layers": "(outer, rows, *, limit=2000)", "tower_breaking": "(outer, rows, *, limit=2000)"},
+    "waits": {"longest": "(house, side, *, limit=2000)", "alone": "(house, side, *, limit=2000)",
+              "endless": "(house, side, *, limit=2000)", "stalled": "(house, *, limit=2000)",
+              "lasso_fault": "(house, side, lasso)"},
+    "repairs": {"right_choices": "(house, options, *, limit=2000)", "least_choices": "(house, options, *, limit=2000)",
+                "spare_places": "(house, *, limit=2000)", "lets": "(house, *, limit=2000)"},
+    "diaries": {"fillings": "(kind, sides, diary)", "filling_count": "(kind, sides, diary)",
+                "sure_results": "(kind, sides, diary)", "first_fault": "(kind, sides, diary)"},
+    "texts": {"kind_text": "(kind)", "read_kind": "(text)", "history_text": "(kind, sides, history)",
+              "read_history": "(kind, sides, text)"},
 }
 EQUAL = {"__eq__": "(self, other)"}
 CLASSES = {
@@ -49,6 +62,10 @@ CLASSES = {
         "Running": {"__init__": "(self, house)", "choices": "(self)", "can": "(self, step)", "step": "(self, step)",
                     "back": "(self)", "record": "(self)", "wander": "(self, numbers)", "__len__": "(self)"},
         "Record": {}},
+    "live": {"Live": {
+        "__init__": "(self, house)", "step": "(self, step)", "lot": "(self)", "events": "(self)", "back": "(self)",
+        "rehearsal": "(self)", "asked": "(self, side)", "__len__": "(self)", "__iadd__": "(self, other)",
+        "__enter__": "(self)", "__exit__": "(self, kind, value, trace)"}},
 }
 
 

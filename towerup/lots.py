@@ -37,7 +37,12 @@ def tellable(kind, sides, history, side):
     row = under_way(kind, sides, history)
     if not is_below(side, sides) or row[side] is None:
         raise NoCall(side)
-    own = [statuses[side] for _, statuses in lot(kind, sides, history)]
+    return tellable_in(lot(kind, sides, history), side)
+
+
+def tellable_in(behind, side):
+    """The results that the side will tell in some configuration of a lot."""
+    own = [statuses[side] for _, statuses in behind]
     return sorted({status[1] for status in own if status[0] == 2})
 
 

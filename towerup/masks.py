@@ -30,7 +30,7 @@ class Lots:
         self._numbers = {first: 0}
 
     def behind(self, number, event):
-        """The number of the lot behind an event; EMPTY if it is empty."""
+        """The number of the lot behind an event; EMPTY if it is empty. A told result that is None may be any."""
         key = (number, event)
         if key not in self._behind:
             calls, masks = self._lots[number]
@@ -81,11 +81,13 @@ class Lots:
         return (calls, tuple(masks))
 
     def _ended(self, calls, before, side, result):
-        """The numbers with the digit of this result stay, with 0 in its place."""
+        """The numbers with the digit of this result stay, with 0 in its place; for None those of all results."""
         masks = [0] * self._size
         for at, mask in enumerate(before):
-            if self._digit(at, side) == result + 1:
-                masks[at - (result + 1) * self._weights[side]] = mask
+            digit = self._digit(at, side)
+            if digit > 0 and result in (None, digit - 1):
+                to = at - digit * self._weights[side]
+                masks[to] = masks[to] | mask
         return (calls, tuple(masks))
 
     def _table(self, call):
